@@ -1,0 +1,1 @@
+"""Firsthit: what a ray meets first, never missed."""
