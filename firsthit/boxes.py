@@ -20,7 +20,8 @@ def times_between(start, step, low, high):
     return ((start - high, -step), (start - low, -step))
 
 
-def stay_in(ray, box):
+def span_in(ray, box):
+    # The stay with its times not yet in lowest terms, for those who only compare them.
     first = (0, 1)
     last = None
     for start, step, low, high in zip(ray[0], ray[1], box[0], box[1]):
@@ -29,19 +30,26 @@ def stay_in(ray, box):
             if start < low or start > high:
                 return None
             continue
-        span = times_between(start, step, low, high)
-        if is_less(first, span[0]):
-            first = span[0]
-        if last is None or is_less(span[1], last):
-            last = span[1]
+        times = times_between(start, step, low, high)
+        if is_less(first, times[0]):
+            first = times[0]
+        if last is None or is_less(times[1], last):
+            last = times[1]
     # The way is not (0, 0, 0), so one place at least has set the last time.
     if is_less(last, first):
         return None
-    return (lowest_terms(first), lowest_terms(last))
+    return (first, last)
+
+
+def stay_in(ray, box):
+    span = span_in(ray, box)
+    if span is None:
+        return None
+    return (lowest_terms(span[0]), lowest_terms(span[1]))
 
 
 def meets_box(ray, box):
-    stay = stay_in(ray, box)
-    if stay is None:
+    span = span_in(ray, box)
+    if span is None:
         return None
-    return stay[0]
+    return lowest_terms(span[0])

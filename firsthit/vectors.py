@@ -1,4 +1,4 @@
-"""Ratios of whole numbers, which the other files share.
+"""Ratios of whole numbers, and points and ways, which the other files share.
 
 A ratio is a tuple (top, under), under above 0. While times are compared they
 may still have a common divisor; what is told to an asker goes through
@@ -22,3 +22,19 @@ def lowest_terms(ratio):
 def is_less(one, other):
     # Both unders are above 0, so multiplying by them turns no comparison round.
     return one[0] * other[1] < other[0] * one[1]
+
+
+def way_between(one, other):
+    return (other[0] - one[0], other[1] - one[1], other[2] - one[2])
+
+
+def dot(one, other):
+    return one[0] * other[0] + one[1] * other[1] + one[2] * other[2]
+
+
+def cross(one, other):
+    return (
+        one[1] * other[2] - one[2] * other[1],
+        one[2] * other[0] - one[0] * other[2],
+        one[0] * other[1] - one[1] * other[0],
+    )

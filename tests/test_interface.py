@@ -4,16 +4,16 @@ import sys
 import unittest
 from pathlib import Path
 
-from firsthit import boxes
+from firsthit import boxes, scenes, shapes, triangles
 
 ROOT = Path(__file__).resolve().parent.parent
 
 
 class Interface(unittest.TestCase):
-    def check(self, module, rows):
+    def check(self, holder, rows):
         for name, arguments in rows:
-            with self.subTest(module=module.__name__, name=name):
-                signature = inspect.signature(getattr(module, name))
+            with self.subTest(holder=holder.__name__, name=name):
+                signature = inspect.signature(getattr(holder, name))
                 self.assertEqual(list(signature.parameters), arguments)
 
     def test_boxes(self):
@@ -21,6 +21,30 @@ class Interface(unittest.TestCase):
             ("box_around", ["points"]),
             ("meets_box", ["ray", "box"]),
             ("stay_in", ["ray", "box"]),
+        ))
+
+    def test_triangles(self):
+        self.check(triangles, (
+            ("meets_segment", ["ray", "one", "other"]),
+            ("meets_triangle", ["ray", "triangle"]),
+        ))
+
+    def test_shapes(self):
+        self.check(shapes, (
+            ("meets", ["ray", "shape"]),
+            ("bounds", ["shape"]),
+        ))
+
+    def test_scenes(self):
+        self.check(scenes, (("Scene", ["shapes"]),))
+        self.check(scenes.Scene, (
+            ("size", ["self"]),
+            ("shape", ["self", "number"]),
+            ("first", ["self", "ray"]),
+            ("every", ["self", "ray"]),
+            ("is_free", ["self", "one", "other"]),
+            ("with_shape", ["self", "shape"]),
+            ("without", ["self", "number"]),
         ))
 
     def test_the_package_binds_nothing(self):

@@ -23,6 +23,11 @@ BUILT_IN = set(
     "ArithmeticError OverflowError RuntimeError NotImplementedError AttributeError StopIteration object".split()
 )
 OWN_UNDERSCORED = {"__init__", "__eq__", "__repr__", "__str__", "__len__"}
+METHODS = set(
+    "append clear copy count endswith extend find get index insert isalnum isalpha isdigit islower isspace isupper "
+    "items join keys ljust lower lstrip partition pop remove replace reverse rfind rjust rpartition rsplit rstrip "
+    "setdefault split splitlines startswith strip update upper values zfill bit_length".split()
+)
 WORDS = re.compile(
     r"\b(type|typing|typing_extensions|enum|Enum|IntEnum|StrEnum|Flag|IntFlag|Generic|Protocol|ABC|ABCMeta"
     r"|namedtuple|NamedTuple|TypedDict|TYPE_CHECKING|abstractmethod)\b|dataclass|overload|contextmanager"
@@ -43,6 +48,18 @@ def bound_names(tree):
             yield node.arg
         elif isinstance(node, (ast.FunctionDef, ast.ClassDef)):
             yield node.name
+
+
+def own_methods():
+    for path, text in sources():
+        for node in ast.walk(ast.parse(text)):
+            if isinstance(node, ast.ClassDef):
+                yield from [part.name for part in node.body if isinstance(part, ast.FunctionDef)]
+
+
+def drawn_from(name):
+    tree = ast.parse((PACKAGE / f"{name}.py").read_text(encoding="utf-8"))
+    return [node.module.split(".")[1] for node in ast.walk(tree) if isinstance(node, ast.ImportFrom)]
 
 
 class Language(unittest.TestCase):
@@ -100,6 +117,48 @@ class Language(unittest.TestCase):
                         self.assertTrue(node.module.startswith("firsthit."), node.module)
                         self.assertNotIn("*", [name.name for name in node.names])
                         self.assertIn(node, tree.body)
+
+    def test_no_two_files_draw_from_one_another(self):
+        for path, text in sources():
+            reached = []
+            waiting = drawn_from(path.stem)
+            while waiting:
+                name = waiting.pop()
+                if name not in reached:
+                    reached.append(name)
+                    waiting.extend(drawn_from(name))
+            self.assertNotIn(path.stem, reached)
+
+    def test_imports_come_from_the_file_that_defines_them(self):
+        for path, text in sources():
+            for node in ast.walk(ast.parse(text)):
+                if isinstance(node, ast.ImportFrom):
+                    other = ast.parse((PACKAGE / f"{node.module.split('.')[1]}.py").read_text(encoding="utf-8"))
+                    defined = [part.name for part in other.body if isinstance(part, (ast.FunctionDef, ast.ClassDef))]
+                    for name in node.names:
+                        self.assertIn(name.name, defined)
+                        self.assertIsNone(name.asname)
+
+    def test_methods_and_values_of_objects(self):
+        own = set(own_methods())
+        called = set()
+        values = set()
+        for path, text in sources():
+            for node in ast.walk(ast.parse(text)):
+                if isinstance(node, ast.Call) and isinstance(node.func, ast.Attribute):
+                    called.add(node.func.attr)
+                if isinstance(node, ast.Attribute) and isinstance(node.ctx, ast.Store):
+                    values.add(node.attr)
+        self.assertLessEqual(called, METHODS | own)
+        self.assertFalse(values & (own | METHODS))
+        self.assertFalse(values & {name for kind in (str, int, list, dict, set, bytes) for name in dir(kind)})
+
+    def test_is_stands_beside_none_true_and_false(self):
+        for path, text in sources():
+            for node in ast.walk(ast.parse(text)):
+                if isinstance(node, ast.Compare) and isinstance(node.ops[0], (ast.Is, ast.IsNot)):
+                    self.assertIsInstance(node.comparators[0], ast.Constant)
+                    self.assertIn(node.comparators[0].value, (None, True, False))
 
     def test_names(self):
         for path, text in sources():

@@ -1,8 +1,9 @@
+import itertools
 import math
 import unittest
 from fractions import Fraction
 
-from firsthit.vectors import common_divisor, is_less, lowest_terms
+from firsthit.vectors import common_divisor, cross, dot, is_less, lowest_terms, way_between
 
 BIG = 2 ** 200 - 1
 
@@ -34,6 +35,29 @@ class Ratios(unittest.TestCase):
             for other in ratios:
                 with self.subTest(one=one, other=other):
                     self.assertEqual(is_less(one, other), Fraction(*one) < Fraction(*other))
+
+
+class Ways(unittest.TestCase):
+    def test_way_between(self):
+        self.assertEqual(way_between((1, 2, 3), (5, 2, -4)), (4, 0, -7))
+        self.assertEqual(way_between((BIG, -BIG, 0), (-BIG, BIG, BIG)), (-2 * BIG, 2 * BIG, BIG))
+
+    def test_dot(self):
+        self.assertEqual(dot((1, 2, 3), (4, -5, 7)), 15)
+        self.assertEqual(dot((BIG, BIG, BIG), (BIG, -BIG, 1)), BIG)
+
+    def test_cross(self):
+        self.assertEqual(cross((1, 0, 0), (0, 1, 0)), (0, 0, 1))
+        self.assertEqual(cross((0, 1, 0), (0, 0, 1)), (1, 0, 0))
+        self.assertEqual(cross((0, 0, 1), (1, 0, 0)), (0, 1, 0))
+        self.assertEqual(cross((2, 4, -6), (-3, -6, 9)), (0, 0, 0))
+
+    def test_cross_is_upright_on_both(self):
+        points = list(itertools.product((-2, 0, 3), (1, -1), (5, 0, 7)))
+        for one, other in itertools.product(points, repeat=2):
+            upright = cross(one, other)
+            self.assertEqual((dot(one, upright), dot(other, upright)), (0, 0))
+            self.assertEqual(dot(upright, upright), dot(one, one) * dot(other, other) - dot(one, other) ** 2)
 
 
 if __name__ == "__main__":
