@@ -3,6 +3,10 @@
 from firsthit.vectors import cross, dot, is_less, lowest_terms, way_between
 
 
+def edges_of(triangle):
+    return [(triangle[0], triangle[1]), (triangle[1], triangle[2]), (triangle[2], triangle[0])]
+
+
 def meets_along(ray, one, other):
     # The segment has the ray's way, or is one point: it lies on the ray's line, or beside it.
     way = ray[1]
@@ -37,8 +41,8 @@ def meets_segment(ray, one, other):
 
 def meets_edges(ray, triangle):
     best = None
-    for one, other in ((0, 1), (1, 2), (2, 0)):
-        time = meets_segment(ray, triangle[one], triangle[other])
+    for one, other in edges_of(triangle):
+        time = meets_segment(ray, one, other)
         if time is not None and (best is None or is_less(time, best)):
             best = time
     return best
@@ -48,7 +52,7 @@ def goes_through(start, way, triangle):
     # Whether the line, ahead and behind, has a point of a triangle whose plane it crosses:
     # it passes all edges on the same side, or touches them.
     gone = [way_between(start, corner) for corner in triangle]
-    sides = [dot(way, cross(gone[one], gone[other])) for one, other in ((0, 1), (1, 2), (2, 0))]
+    sides = [dot(way, cross(one, other)) for one, other in edges_of(gone)]
     return min(sides) >= 0 or max(sides) <= 0
 
 

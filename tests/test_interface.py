@@ -4,7 +4,7 @@ import sys
 import unittest
 from pathlib import Path
 
-from firsthit import boxes, scenes, shapes, triangles
+from firsthit import boxes, desk, errors, scenes, shapes, surfaces, triangles, views
 
 ROOT = Path(__file__).resolve().parent.parent
 
@@ -46,6 +46,26 @@ class Interface(unittest.TestCase):
             ("with_shape", ["self", "shape"]),
             ("without", ["self", "number"]),
         ))
+
+    def test_views(self):
+        self.check(views, (
+            ("seen", ["scene", "frame", "wide", "high"]),
+            ("drawn", ["rows"]),
+        ))
+
+    def test_surfaces(self):
+        self.check(surfaces, (
+            ("is_closed", ["triangles"]),
+            ("six_volume", ["triangles"]),
+            ("place_of", ["point", "triangles"]),
+        ))
+
+    def test_desk(self):
+        self.check(desk, (("play", ["text"]),))
+
+    def test_errors(self):
+        for name in ("HitError", "NoRay", "NoShape", "NotClosed", "BadRow"):
+            self.assertTrue(issubclass(getattr(errors, name), ValueError))
 
     def test_the_package_binds_nothing(self):
         # In a process of its own: other tests' imports bind the files to the package.

@@ -34,6 +34,17 @@ WORDS = re.compile(
 )
 
 
+NOT_NAMES = set(
+    "register mro elements open input version_info with_traceback add_note attrgetter breakpoint builtins compile "
+    "copyright credits delattr dir eval exec exit gc getattr globals hasattr help id importlib license locals "
+    "methodcaller os quit setattr super sys vars chr print __name__".split()
+)
+WALKED = {"zip", "enumerate", "reversed", "range", "items", "keys", "values"}
+WALKERS = {"list", "tuple", "dict", "sorted", "sum", "any", "all", "enumerate", "zip", "min", "max"}
+READ_BY = {"get", "index", "count", "items", "keys", "values", "copy"}
+TAKEN = {"KeyError", "ZeroDivisionError", "StopIteration"}
+
+
 def sources():
     for path in sorted(PACKAGE.rglob("*")):
         if path.is_file() and "__pycache__" not in path.parts:
@@ -55,6 +66,39 @@ def own_methods():
         for node in ast.walk(ast.parse(text)):
             if isinstance(node, ast.ClassDef):
                 yield from [part.name for part in node.body if isinstance(part, ast.FunctionDef)]
+
+
+def is_plain(node, functions):
+    if isinstance(node, ast.Name):
+        return node.id in functions
+    if isinstance(node, (ast.List, ast.Tuple)):
+        return all(is_plain(part, functions) for part in node.elts)
+    if isinstance(node, ast.Dict):
+        return all(is_plain(part, functions) for part in node.keys + node.values)
+    return isinstance(node, ast.Constant)
+
+
+def called_name(node):
+    if not isinstance(node, ast.Call):
+        return None
+    return node.func.attr if isinstance(node.func, ast.Attribute) else getattr(node.func, "id", None)
+
+
+def is_read(node, above):
+    """Whether a list or dict of a file's top, at this place, is only read."""
+    if isinstance(above, ast.Subscript):
+        return above.value is node and isinstance(above.ctx, ast.Load)
+    if isinstance(above, ast.Attribute):
+        return above.attr in READ_BY
+    if isinstance(above, ast.Compare):
+        return isinstance(above.ops[0], (ast.In, ast.NotIn, ast.Eq, ast.NotEq))
+    return isinstance(above, (ast.For, ast.comprehension)) or called_name(above) in WALKERS | {"len"}
+
+
+def with_above(tree):
+    for above in ast.walk(tree):
+        for node in ast.iter_child_nodes(above):
+            yield node, above
 
 
 def drawn_from(name):
@@ -159,6 +203,119 @@ class Language(unittest.TestCase):
                 if isinstance(node, ast.Compare) and isinstance(node.ops[0], (ast.Is, ast.IsNot)):
                     self.assertIsInstance(node.comparators[0], ast.Constant)
                     self.assertIn(node.comparators[0].value, (None, True, False))
+
+    def test_the_top_of_a_file(self):
+        for path, text in sources():
+            functions = []
+            with self.subTest(file=path.name):
+                for place, node in enumerate(ast.parse(text).body):
+                    if isinstance(node, ast.FunctionDef):
+                        functions.append(node.name)
+                    elif isinstance(node, ast.Assign):
+                        self.assertIsInstance(node.targets[0], ast.Name)
+                        self.assertTrue(is_plain(node.value, functions), ast.unparse(node))
+                        inner = [part for part in ast.walk(node.value) if part is not node.value]
+                        self.assertFalse([part for part in inner if isinstance(part, (ast.List, ast.Dict))])
+                    elif isinstance(node, ast.Expr):
+                        self.assertEqual((place, isinstance(node.value, ast.Constant)), (0, True))
+                    else:
+                        self.assertIsInstance(node, (ast.ImportFrom, ast.ClassDef))
+
+    def test_lists_and_dicts_of_the_top_are_only_read(self):
+        for path, text in sources():
+            tree = ast.parse(text)
+            kept = [node.targets[0].id for node in tree.body
+                    if isinstance(node, ast.Assign) and isinstance(node.value, (ast.List, ast.Dict))]
+            for node, above in with_above(tree):
+                if isinstance(node, ast.Name) and node.id in kept and isinstance(node.ctx, ast.Load):
+                    self.assertTrue(is_read(node, above), (path.name, node.lineno))
+
+    def test_names_of_the_top_are_bound_once(self):
+        for path, text in sources():
+            tree = ast.parse(text)
+            top = [node.name for node in tree.body if isinstance(node, (ast.FunctionDef, ast.ClassDef))]
+            top += [node.targets[0].id for node in tree.body if isinstance(node, ast.Assign)]
+            drawn = [name.name for node in tree.body if isinstance(node, ast.ImportFrom) for name in node.names]
+            self.assertEqual(len(top + drawn), len(set(top + drawn)), path.name)
+            classes = [node.name for node in tree.body if isinstance(node, ast.ClassDef)]
+            inner = [node for node in ast.walk(tree) if isinstance(node, (ast.Name, ast.arg))]
+            for node in inner:
+                name = node.arg if isinstance(node, ast.arg) else node.id
+                if isinstance(node, ast.arg) or isinstance(node.ctx, ast.Store):
+                    self.assertNotIn(name, drawn + classes, (path.name, node.lineno))
+
+    def test_classes(self):
+        own = [node.name for path, text in sources() for node in ast.parse(text).body if isinstance(node, ast.ClassDef)]
+        for path, text in sources():
+            tree = ast.parse(text)
+            for node in ast.walk(tree):
+                if isinstance(node, ast.ClassDef):
+                    self.assertIn(node, tree.body)
+                    self.assertLessEqual(len(node.bases), 1)
+                    self.assertFalse(node.keywords)
+                    for base in node.bases:
+                        self.assertIn(base.id, own + ["ValueError", "Exception"])
+                    methods = [part.name for part in node.body if isinstance(part, ast.FunctionDef)]
+                    self.assertEqual(len(methods), len(set(methods)))
+                    for part in node.body:
+                        self.assertIsInstance(part, (ast.FunctionDef, ast.Pass, ast.Expr))
+            for node, above in with_above(tree):
+                if isinstance(node, ast.Name) and node.id in own:
+                    stands = isinstance(above, (ast.ClassDef, ast.ExceptHandler, ast.Raise))
+                    self.assertTrue(stands or called_name(above) in (node.id, "isinstance"), (path.name, node.lineno))
+
+    def test_functions(self):
+        for path, text in sources():
+            for node in ast.walk(ast.parse(text)):
+                if isinstance(node, (ast.FunctionDef, ast.Lambda)):
+                    self.assertEqual((node.args.vararg, node.args.kwarg, node.args.kwonlyargs), (None, None, []))
+                    self.assertEqual(node.args.posonlyargs, [])
+                if isinstance(node, ast.FunctionDef):
+                    self.assertIsNone(node.returns)
+                if isinstance(node, ast.arg):
+                    self.assertIsNone(node.annotation)
+                self.assertNotIsInstance(node, ast.AnnAssign)
+                if isinstance(node, ast.ListComp):
+                    self.assertEqual(len(node.generators), 1)
+                    self.assertLessEqual(len(node.generators[0].ifs), 1)
+
+    def test_names_that_are_not_used(self):
+        for path, text in sources():
+            for node in ast.walk(ast.parse(text)):
+                if isinstance(node, (ast.Name, ast.Attribute, ast.arg, ast.FunctionDef, ast.ClassDef)):
+                    names = [getattr(node, key, "") for key in ("id", "attr", "arg", "name")]
+                    self.assertFalse(NOT_NAMES & set(names), (path.name, node.lineno))
+
+    def test_errors_are_taken_by_their_own_names(self):
+        own = [node.name for node in ast.parse((PACKAGE / "errors.py").read_text(encoding="utf-8")).body
+               if isinstance(node, ast.ClassDef)]
+        for path, text in sources():
+            for node in ast.walk(ast.parse(text)):
+                if isinstance(node, ast.ExceptHandler):
+                    self.assertIn(node.type.id, TAKEN | set(own), (path.name, node.lineno))
+                if isinstance(node, ast.Raise):
+                    self.assertIn(called_name(node.exc), own, (path.name, node.lineno))
+
+    def test_walked_on_the_spot(self):
+        for path, text in sources():
+            for node, above in with_above(ast.parse(text)):
+                if called_name(node) in WALKED:
+                    walked = isinstance(above, (ast.For, ast.comprehension)) and above.iter is node
+                    self.assertTrue(walked or called_name(above) in WALKERS, (path.name, node.lineno))
+                self.assertNotIn(called_name(node), ("set", "frozenset"))
+                self.assertNotIsInstance(node, ast.Set)
+
+    def test_numbers_and_texts(self):
+        for path, text in sources():
+            for node in ast.walk(ast.parse(text)):
+                if isinstance(node, ast.Constant) and isinstance(node.value, str):
+                    self.assertNotIn("%", node.value)
+                if isinstance(node, ast.BinOp) and isinstance(node.op, ast.Pow):
+                    self.assertIsInstance(node.right, ast.Constant)
+                if isinstance(node, ast.FormattedValue):
+                    self.assertIsInstance(node.value, ast.Name)
+                    self.assertIsNone(node.format_spec)
+            self.assertNotRegex(text, r"\\[^nt\\'\"]")
 
     def test_names(self):
         for path, text in sources():
