@@ -302,6 +302,11 @@ class Rows(Playing):
             with self.subTest(row=row):
                 self.check((row, "size"), [BAD, "0"])
 
+    def test_one_sign_alone(self):
+        for sign in SIGNS[1:]:
+            with self.subTest(sign=sign):
+                self.check((sign, sign * 3, "size"), [BAD, BAD, "0"])
+
     def test_too_few_and_too_many_words(self):
         for row, count in SORTS:
             words = row.split(" ")
